@@ -36,27 +36,35 @@ class Station:
     def message_now(self):
         return [self.drill] + self.known + self.news()
 
-    def hear(self, message):
-        """Take in a good message; answer of how many persons something else is known now."""
-        self.heard = min(self.heard + 1, MOST_HEARD)
+    def would_learn(self, message):
+        """Of how many persons something else would be known behind this good message."""
         drill = told_drill(message)
         if drill < self.drill:
             return 0
+        told = told_persons(message)
+        if drill > self.drill:
+            # It would be joined with nothing known, so whoever is told of counts.
+            return sum([1 for number in told if number > 0])
+        return sum([1 for p in range(PERSONS) if told[p] > self.known[p]])
+
+    def hear(self, message):
+        """Take in a good message; answer of how many persons something else is known now."""
+        changed = self.would_learn(message)
+        self.heard = min(self.heard + 1, MOST_HEARD)
+        drill = told_drill(message)
         if drill > self.drill:
             self.enter_drill(drill)
-        self.learn_news(told_news(message))
-        return self.learn_persons(told_persons(message))
+        if drill == self.drill:
+            self.learn_persons(told_persons(message))
+            self.learn_news(told_news(message))
+        return changed
+
+    def learn_persons(self, told):
+        for p in range(PERSONS):
+            self.known[p] = max(self.known[p], told[p])
 
     def learn_news(self, told):
         for k in range(STATIONS):
             # No one else can know more of this station than it does itself, whatever they tell.
             if k != self.me:
                 self.others_news[k] = max(self.others_news[k], told[k])
-
-    def learn_persons(self, told):
-        changed = 0
-        for p in range(PERSONS):
-            if told[p] > self.known[p]:
-                self.known[p] = told[p]
-                changed += 1
-        return changed

@@ -12,6 +12,14 @@ NUMBERS = {
     "where": 6,
     "count": 7,
     "missing": 8,
+    "at": 9,
+    "sure": 10,
+    "news": 11,
+    "soonest": 12,
+    "new": 13,
+    "last": 14,
+    "which": 15,
+    "state": 16,
 }
 
 
@@ -76,13 +84,24 @@ def code(minute, station):
     return 8 * minute + station + 1
 
 
+def bits(members):
+    return sum(2 ** member for member in members)
+
+
 def everything(station):
-    """Calls that show all that can be asked of a station."""
-    return [("tell", station), ("count", station), ("missing", station)] + [
-        ("where", station, p) for p in range(16)
-    ]
+    """Calls that show all that can be asked of a station, but how many messages it has heard."""
+    calls = [("tell", station), ("count", station), ("missing", station)]
+    calls += [("where", station, p) for p in range(16)]
+    calls += [("at", station, k) for k in range(5)] + [("news", station, k) for k in range(5)]
+    calls += [("soonest", station, n) for n in range(1, 6)] + [("sure", station, n, 0) for n in range(1, 6)]
+    return calls + [("last", station), ("which", station)]
 
 
 def shown(calls, station):
     """What everything() answers behind these calls."""
     return asked(*calls, *everything(station))[len(calls):]
+
+
+def whole(calls, station):
+    """What everything() and mu_state answer behind these calls."""
+    return shown(calls, station) + asked(*calls, ("state", station))[-1:]

@@ -2,7 +2,7 @@
 
 import unittest
 
-from tests.helper import asked, code, last, message, minutes, shown
+from tests.helper import asked, code, last, message, minutes, whole
 
 HIGHEST = 4294967295
 
@@ -33,7 +33,7 @@ class ComingIn(unittest.TestCase):
         for p in (16, 17, 32, HIGHEST, -1):
             calls = [("start", 0, 0), ("drill", 0), ("in", 0, 3)]
             self.assertEqual(last(*calls, ("in", 0, p)), [-2])
-            self.assertEqual(shown(calls + [("in", 0, p)], 0), shown(calls, 0))
+            self.assertEqual(whole(calls + [("in", 0, p)], 0), whole(calls, 0))
 
     def test_no_drill(self):
         for p in (0, 15):
@@ -46,7 +46,7 @@ class ComingIn(unittest.TestCase):
     def test_again_in_the_same_minute_at_the_same_station(self):
         calls = [("start", 0, 2), ("minutes", 0, 8), ("drill", 0), ("in", 0, 6)]
         self.assertEqual(last(*calls, ("in", 0, 6)), [-17])
-        self.assertEqual(shown(calls + [("in", 0, 6)], 0), shown(calls, 0))
+        self.assertEqual(whole(calls + [("in", 0, 6)], 0), whole(calls, 0))
 
     def in_elsewhere(self, me, minute, number):
         return [("start", 0, me), *minutes(0, minute), ("hear", 0, message(1, {6: number})), ("in", 0, 6)]

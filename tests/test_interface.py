@@ -1,10 +1,9 @@
 """The interface: how calls and answers stand in their lists, and what is left as it was."""
 
-import random
 import unittest
 
 from shipmuster.muster import answers
-from tests.helper import apart, asked, code, line, message, shown
+from tests.helper import apart, asked, code, line, message, whole
 
 
 class Untouchable(list):
@@ -83,17 +82,17 @@ class ThreeStations(unittest.TestCase):
     def test_they_do_not_touch_each_other(self):
         # The same number for all three: they are still three.
         calls = [("start", k, 2) for k in range(3)] + [("drill", k) for k in range(3)]
-        before = [shown(calls, k) for k in range(3)]
+        before = [whole(calls, k) for k in range(3)]
         busy = [
             ("minutes", 1, 8), ("in", 1, 5), ("hear", 1, message(1, {6: 1}, {4: 3})), ("drill", 1), ("in", 1, 7),
             ("start", 1, 4), ("drill", 1), ("in", 1, 0),
         ]
         for count in range(1, len(busy) - 2):
-            self.assertEqual(shown(calls + busy[:count], 0), before[0])
-            self.assertEqual(shown(calls + busy[:count], 2), before[2])
-            self.assertNotEqual(shown(calls + busy[:count], 1), before[1])
-        self.assertEqual(shown(calls + busy, 0), before[0])
-        self.assertEqual(shown(calls + busy, 2), before[2])
+            self.assertEqual(whole(calls + busy[:count], 0), before[0])
+            self.assertEqual(whole(calls + busy[:count], 2), before[2])
+            self.assertNotEqual(whole(calls + busy[:count], 1), before[1])
+        self.assertEqual(whole(calls + busy, 0), before[0])
+        self.assertEqual(whole(calls + busy, 2), before[2])
 
     def test_each_has_its_own_minute_drill_and_number(self):
         rows = asked(
@@ -102,57 +101,6 @@ class ThreeStations(unittest.TestCase):
         )
         self.assertEqual(rows[3:12], [[1], [2], [3], [1], [2], [1], [0], [0], [-6]])
         self.assertEqual(rows[12:], [[1] + message(2, {0: 27}, {2: 3}), [1] + message(1, {0: 20}, {3: 2})])
-
-
-class OverTheRadio(unittest.TestCase):
-    """Three stations whose messages get lost, come late, or twice."""
-
-    def muster(self, seed):
-        """A line of calls, and who came in: (person, minute, station)."""
-        chance = random.Random(seed)
-        calls = [("start", 0, 0), ("start", 1, 1), ("start", 2, 2), ("drill", 0)]
-        came = set()
-        told = [asked(*calls, ("tell", 0))[-1][1:]]
-        minute = 0
-        for step in range(60):
-            act = chance.choice(["minutes", "in", "in", "tell", "hear", "hear"])
-            station = chance.randrange(3)
-            if act == "minutes":
-                calls.extend([("minutes", k, 1) for k in range(3)])
-                minute += 1
-            elif act == "in":
-                p = chance.randrange(16)
-                calls.append(("in", station, p))
-                if asked(*calls)[-1][0] >= 0:
-                    came.add((p, minute, station))
-            elif act == "hear":
-                calls.append(("hear", station, chance.choice(told)))
-            else:
-                row = asked(*calls, ("tell", station))[-1]
-                if row[0] >= 0:
-                    told.append(row[1:])
-        return calls, came
-
-    def test_who_is_in_has_come(self):
-        for seed in range(12):
-            calls, came = self.muster(seed)
-            self.assertNotIn([-71], asked(*calls))
-            for station in range(3):
-                for p, row in enumerate(shown(calls, station)[3:]):
-                    if row != [-6]:
-                        self.assertIn((p, row[1], row[0]), came)
-
-    def test_news_of_a_station_hold_all_that_came_in_before(self):
-        for seed in range(12):
-            calls, came = self.muster(seed)
-            for station in range(3):
-                row = shown(calls, station)[0]
-                if row == [-6]:
-                    continue
-                known, news = row[2:18], row[18:]
-                for p, minute, where in came:
-                    if minute < news[where]:
-                        self.assertGreaterEqual(known[p], code(minute, where))
 
 
 if __name__ == "__main__":

@@ -2,7 +2,7 @@
 
 import unittest
 
-from tests.helper import asked, code, last, message, minutes, shown
+from tests.helper import asked, code, last, message, minutes, shown, whole
 
 HIGHEST = 4294967295
 
@@ -56,7 +56,7 @@ class Start(unittest.TestCase):
         for me in (5, HIGHEST):
             calls = self.used() + [("start", 0, me)]
             self.assertEqual(last(*calls), [-22])
-            self.assertEqual(shown(calls, 0), shown(self.used(), 0))
+            self.assertEqual(whole(calls, 0), whole(self.used(), 0))
             self.assertEqual(last(*calls, ("minutes", 0, 1)), [10])
             self.assertEqual(last(*calls, ("tell", 0)), [2] + message(
                 2, {5: code(9, 3), 6: code(4, 1)}, {1: 8, 2: 7, 3: 9}))
@@ -106,7 +106,7 @@ class Drill(unittest.TestCase):
     def test_a_refused_drill_changes_nothing(self):
         calls = [("start", 0, 2), ("hear", 0, message(1000, {4: code(3, 1)}, {0: 5})), ("in", 0, 9)]
         self.assertEqual(last(*calls, ("drill", 0)), [-28])
-        self.assertEqual(shown(calls + [("drill", 0)], 0), shown(calls, 0))
+        self.assertEqual(whole(calls + [("drill", 0)], 0), whole(calls, 0))
 
     def test_nothing_is_known_in_the_new_drill(self):
         calls = [
@@ -114,7 +114,7 @@ class Drill(unittest.TestCase):
             ("hear", 0, message(1, {7: code(20, 4)}, {0: 11, 4: 22})), ("drill", 0),
         ]
         # News of others are gone with the drill; those of itself are the minute now.
-        self.assertEqual(shown(calls, 0), [[0] + message(2, {}, {2: 30}), [0, 0], [16, 65535]] + [[-6]] * 16)
+        self.assertEqual(shown(calls, 0)[:19], [[0] + message(2, {}, {2: 30}), [0, 0], [16, 65535]] + [[-6]] * 16)
 
     def test_minutes_go_on_over_drills(self):
         rows = asked(("start", 0, 0), ("minutes", 0, 5), ("drill", 0), ("minutes", 0, 5))

@@ -4,7 +4,7 @@ import itertools
 import unittest
 
 from shipmuster.station import Station
-from tests.helper import asked, code, last, message, minutes, shown
+from tests.helper import asked, code, last, message, minutes, shown, whole
 
 HIGHEST = 4294967295
 
@@ -36,7 +36,7 @@ class Tell(unittest.TestCase):
 
     def test_telling_changes_nothing(self):
         calls = [("start", 0, 1), ("drill", 0), ("in", 0, 2)]
-        self.assertEqual(shown(calls + [("tell", 0), ("tell", 0)], 0), shown(calls, 0))
+        self.assertEqual(whole(calls + [("tell", 0), ("tell", 0)], 0), whole(calls, 0))
 
     def test_what_is_told_is_good_at_the_last_of_all(self):
         calls = [
@@ -99,7 +99,7 @@ class Good(unittest.TestCase):
             message(2, full, {2: 50, 4: 100001}),
         ):
             self.assertEqual(last(*calls, ("hear", 0, told)), [-71])
-            self.assertEqual(shown(calls + [("hear", 0, told)], 0), shown(calls, 0))
+            self.assertEqual(whole(calls + [("hear", 0, told)], 0), whole(calls, 0))
 
     def test_an_older_drills_message_that_is_not_good_is_refused(self):
         calls = [("start", 0, 1), ("drill", 0), ("drill", 0)]

@@ -2,7 +2,7 @@
 
 import unittest
 
-from tests.helper import asked, code, last, message, minutes, shown
+from tests.helper import asked, code, last, message, minutes, whole
 
 HIGHEST = 4294967295
 
@@ -69,7 +69,7 @@ class Asking(unittest.TestCase):
     def test_asking_changes_nothing(self):
         calls = [("start", 0, 2), ("minutes", 0, 3), ("hear", 0, message(2, {1: code(1, 1)}, {1: 2})), ("in", 0, 0)]
         questions = [("where", 0, 0), ("where", 0, 5), ("where", 0, 16), ("count", 0), ("missing", 0)]
-        self.assertEqual(shown(calls + questions, 0), shown(calls, 0))
+        self.assertEqual(whole(calls + questions, 0), whole(calls, 0))
 
 
 if __name__ == "__main__":
